@@ -1,0 +1,1 @@
+"""Mistgrid: tables given out under mist."""

@@ -1,0 +1,101 @@
+"""The interface as a whole, the README's examples, and what of ../shared/LANGUAGE.md is easily seen."""
+
+import ast
+import doctest
+import importlib
+import inspect
+import pathlib
+import unittest
+
+ROOT = pathlib.Path(__file__).resolve().parent.parent
+FILES = sorted((ROOT / "mistgrid").rglob("*.py"))
+
+INTERFACE = {
+    "errors": {
+        "MistError": None, "NoLevel": None, "NoWorld": None, "NoDesk": None,
+        "NoText": ["row"], "Unsafe": ["keys_told"], "Tells": ["person", "secrets"],
+    },
+    "ladders": {
+        "is_ladder": ["thing"], "is_value": ["ladder", "thing"], "levels_of": ["ladder"],
+        "coarse": ["ladder", "value", "level"],
+    },
+    "tables": {
+        "is_table": ["thing"], "is_rule": ["thing"], "beneath": ["one", "other"],
+        "groups_of": ["table", "levels"], "failing": ["table", "levels", "rule"],
+        "is_safe": ["table", "levels", "rule"],
+    },
+}
+
+# L8, less what only __main__.py or a later need of the program may use.
+BUILTINS = """len range enumerate zip min max sum abs sorted reversed int str bool list tuple dict set
+    isinstance ord repr any all divmod iter next map type super ValueError TypeError KeyError
+    IndexError LookupError""".split()
+
+
+class Interface(unittest.TestCase):
+    def test_all_names_stand_in_their_files_with_their_arguments(self):
+        for file, names in INTERFACE.items():
+            module = importlib.import_module("mistgrid." + file)
+            for name, arguments in names.items():
+                thing = getattr(module, name)
+                self.assertEqual(thing.__module__, "mistgrid." + file, name)
+                if arguments is not None:
+                    self.assertEqual(list(inspect.signature(thing).parameters), arguments, name)
+
+
+class Readme(unittest.TestCase):
+    def test_the_examples(self):
+        told = doctest.testfile(str(ROOT / "README.md"), module_relative=False)
+        self.assertGreater(told.attempted, 0)
+        self.assertEqual(told.failed, 0)
+
+
+class Language(unittest.TestCase):
+    def test_the_folder_holds_only_sources(self):
+        for path in (ROOT / "mistgrid").rglob("*"):
+            if "__pycache__" not in path.parts:
+                self.assertTrue(path.is_dir() or path.suffix == ".py", path)
+        self.assertIn(ROOT / "mistgrid" / "__init__.py", FILES)
+
+    def test_signs_and_sizes(self):
+        for path in FILES:
+            lines = path.read_text(encoding="ascii").split("\n")
+            self.assertLessEqual(len(lines) - 1, 399, path)
+            for line in lines:
+                self.assertLessEqual(len(line), 120, (path, line))
+                self.assertTrue(all(" " <= sign <= "~" for sign in line), (path, line))
+
+    def test_functions_of_at_most_forty_lines_and_undecorated(self):
+        for path in FILES:
+            for node in ast.walk(ast.parse(path.read_text())):
+                if isinstance(node, (ast.FunctionDef, ast.ClassDef)):
+                    self.assertEqual(node.decorator_list, [], (path, node.name))
+                if isinstance(node, ast.FunctionDef):
+                    self.assertLessEqual(node.end_lineno - node.lineno + 1, 40, (path, node.name))
+
+    def test_imports_are_from_the_files_of_the_package(self):
+        for path in FILES:
+            for node in ast.walk(ast.parse(path.read_text())):
+                self.assertNotIsInstance(node, ast.Import, path)
+                if isinstance(node, ast.ImportFrom):
+                    file = ROOT / (node.module.replace(".", "/") + ".py")
+                    self.assertIn(file, FILES, path)
+                    names = [part.name for part in ast.parse(file.read_text()).body
+                             if isinstance(part, (ast.FunctionDef, ast.ClassDef))]
+                    for alias in node.names:
+                        self.assertIn(alias.name, names, path)
+                        self.assertIsNone(alias.asname, path)
+
+    def test_only_allowed_builtins_and_no_floats(self):
+        known = set(dir(__builtins__) if not isinstance(__builtins__, dict) else __builtins__)
+        for path in FILES:
+            for node in ast.walk(ast.parse(path.read_text())):
+                if isinstance(node, ast.Name) and node.id in known:
+                    self.assertIn(node.id, BUILTINS, path)
+                self.assertNotIsInstance(node, ast.Div, path)
+                if isinstance(node, ast.Constant):
+                    self.assertNotIsInstance(node.value, (float, complex), path)
+
+
+if __name__ == "__main__":
+    unittest.main()
