@@ -1,6 +1,6 @@
 """Ladders, by which values are made coarser: of numbers and of names."""
 
-from mistgrid.basics import is_name, is_number, is_tuple
+from mistgrid.basics import FIRST_TOO_GREAT, is_name, is_number, is_tuple
 from mistgrid.errors import NoLevel
 
 TOP = "*"
@@ -60,6 +60,20 @@ def all_coarse(ladder, values, level):
         return [value // step * step for value in values]
     above = _above_of(parts)
     return [_climb(above, value, level) for value in values]
+
+
+def is_coarse(ladder, thing, level):
+    """Whether the thing, anything at all, is what some value is at a level that the ladder has."""
+    kind, parts = ladder
+    if level == levels_of(ladder) - 1:
+        return type(thing) is str and thing == TOP
+    if kind == "tree":
+        return is_name(thing) and thing in all_coarse(ladder, _lowest(parts), level)
+    if type(thing) is not int:
+        return False
+    # Below all numbers there is but what the least number is at the level.
+    nearest = max(thing, 1 - FIRST_TOO_GREAT)
+    return is_number(nearest) and all_coarse(ladder, [nearest], level) == [thing]
 
 
 def _are_steps(parts):

@@ -41,6 +41,29 @@ NUMBERS = (
 EMPTY = ((AGES, SHORT), ())
 TABLES = (MIXED, NUMBERS, EMPTY)
 
+# Four ladders, of all kinds.
+FOUR = (
+    (("num", (10,)), SHORT, PLACES, PLAIN),
+    (
+        ((3, "yes", "york", 1), "cold"),
+        ((-3, "no", "hull", 1), "flu"),
+        ((7, "yes", "york", 2), "flu"),
+        ((12, "no", "dover", 2), "cold"),
+        ((19, "no", "dover", 1), "gout"),
+        ((-3, "yes", "hull", 1), "cold"),
+        ((14, "yes", "york", 2), "flu"),
+    ),
+)
+# As many ladders, levels and rows as there may be.
+EIGHT = ("num", (2, 4, 8, 16, 32, 64))
+WIDE = (
+    (EIGHT, EIGHT, EIGHT, EIGHT),
+    tuple(
+        ((at * 37 % 101 - 50, at * 53 % 97, at * at % 89 - 40, at * 29 % 113), "abcd"[at * 7 % 11 % 4])
+        for at in range(60)
+    ),
+)
+
 
 class Rude:
     """Lets nothing be asked of itself."""

@@ -24,7 +24,21 @@ INTERFACE = {
         "groups_of": ["table", "levels"], "failing": ["table", "levels", "rule"],
         "is_safe": ["table", "levels", "rule"],
     },
+    "texts": {
+        "show_table": ["table"], "read_table": ["text"], "show_release": ["release"],
+        "read_release": ["ladders", "text"],
+    },
+    "border": {"border_of": ["table", "rule"], "border_holds": ["table", "rule", "border"]},
+    "losses": {
+        "loss_of": ["table", "levels", "rule", "costs", "out"],
+        "bound_of": ["table", "rule", "costs", "box", "out"],
+        "least_loss": ["table", "rule", "costs", "out"],
+        "loss_paper": ["table", "rule", "costs", "out"],
+        "paper_holds": ["table", "rule", "costs", "told", "paper", "out"],
+    },
 }
+# Those behind a star, by name alone, with what they are where they are left out.
+BEHIND_A_STAR = {"out": 50}
 
 # L8, less what only __main__.py or a later need of the program may use.
 BUILTINS = """len range enumerate zip min max sum abs sorted reversed int str bool list tuple dict set
@@ -41,6 +55,18 @@ class Interface(unittest.TestCase):
                 self.assertEqual(thing.__module__, "mistgrid." + file, name)
                 if arguments is not None:
                     self.assertEqual(list(inspect.signature(thing).parameters), arguments, name)
+
+    def test_only_those_behind_a_star_are_by_name_alone_and_may_be_left_out(self):
+        for file, names in INTERFACE.items():
+            for name, arguments in names.items():
+                if arguments is None:
+                    continue
+                thing = getattr(importlib.import_module("mistgrid." + file), name)
+                for part in inspect.signature(thing).parameters.values():
+                    starred = part.name in BEHIND_A_STAR
+                    self.assertEqual(part.kind is part.KEYWORD_ONLY, starred, (name, part))
+                    self.assertEqual(part.kind is part.POSITIONAL_OR_KEYWORD, not starred, (name, part))
+                    self.assertEqual(part.default, BEHIND_A_STAR.get(part.name, part.empty), name)
 
 
 class Readme(unittest.TestCase):
@@ -80,8 +106,10 @@ class Language(unittest.TestCase):
                 if isinstance(node, ast.ImportFrom):
                     file = ROOT / (node.module.replace(".", "/") + ".py")
                     self.assertIn(file, FILES, path)
-                    names = [part.name for part in ast.parse(file.read_text()).body
+                    body = ast.parse(file.read_text()).body
+                    names = [part.name for part in body
                              if isinstance(part, (ast.FunctionDef, ast.ClassDef))]
+                    names.extend(part.targets[0].id for part in body if isinstance(part, ast.Assign))
                     for alias in node.names:
                         self.assertIn(alias.name, names, path)
                         self.assertIsNone(alias.asname, path)
