@@ -1,8 +1,10 @@
-"""What several tests ask of: ladders, tables, and things that are neither."""
+"""What several tests ask of: ladders, tables, rolls, releases, and things that are none of these."""
 
+import random
 from itertools import product
 
-from mistgrid.ladders import levels_of
+from mistgrid.ladders import coarse, levels_of
+from mistgrid.releases import release_of
 
 PLAIN = ("num", ())
 AGES = ("num", (5, 10, 50))
@@ -18,6 +20,10 @@ PLACES = (
     ),
 )
 SHORT = ("tree", (("yes", "*"), ("no", "*")))
+VALUES = {
+    PLAIN: (-1, 0, 7), AGES: (-51, -5, -3, 0, 4, 12, 49), PLACES: ("york", "hull", "dover"),
+    SHORT: ("yes", "no"),
+}
 
 # Of each coarse key there are rows of one and of several secrets, in no order.
 MIXED = (
@@ -106,6 +112,97 @@ def anything():
     ]
 
 
+def is_among(thing, others):
+    """Whether the thing, anything at all, is one of the others, which are plain ones."""
+    return any(_is_same(thing, other) for other in others)
+
+
+def _is_same(thing, other):
+    if type(thing) is not type(other):
+        return False
+    if type(thing) is tuple:
+        return len(thing) == len(other) and all(_is_same(*parts) for parts in zip(thing, other))
+    return thing == other
+
+
 def coarsenings_of(table):
     """All coarsenings of the table, in the order of tuples."""
     return list(product(*[range(levels_of(ladder)) for ladder in table[0]]))
+
+
+# Eight persons in a house: numbers and names that may be known of them, three of them alike.
+PERSONS = (
+    ("ann", (12, "york")), ("bob", (14, "hull")), ("cid", (-3, "dover")), ("dan", (12, "york")),
+    ("eve", (49, "dover")), ("fay", (0, "hull")), ("gus", (-7, "york")), ("hal", (12, "york")),
+)
+KINDS = ("cold", "flu", "gout")
+HOUSE = ((AGES, PLACES), PERSONS, KINDS)
+SIX = ("a", "b", "c", "d", "e", "f")
+
+
+def roll_of(many, kinds=KINDS):
+    """A roll of the first of the persons."""
+    return ((AGES, PLACES), PERSONS[:many], kinds)
+
+
+def table_of(roll, world):
+    """The table of a roll's persons where each has the secret of the world."""
+    ladders, persons, _ = roll
+    return ladders, tuple((publics, secret) for (_, publics), secret in zip(persons, world))
+
+
+def plain_fits(roll, world, releases):
+    """Whether the world fits all releases, as [19] tells it."""
+    ladders, persons, _ = roll
+    for levels, groups in releases:
+        keys = [
+            tuple(coarse(*part) for part in zip(ladders, publics, levels)) for _, publics in persons
+        ]
+        for key, secrets in groups:
+            have = sorted(secret for other, secret in zip(keys, world) if other == key)
+            if tuple(have) != secrets:
+                return False
+    return True
+
+
+def worlds_of(roll, releases):
+    """All worlds that fit, by going through all there are."""
+    _, persons, kinds = roll
+    return [
+        world for world in product(kinds, repeat=len(persons)) if plain_fits(roll, world, releases)
+    ]
+
+
+def spoiled(release, chance):
+    """The release with secrets of one group changed, or one more or one less; it may be without groups."""
+    levels, groups = release
+    if not groups:
+        return release
+    at = chance.randrange(len(groups))
+    key, secrets = groups[at]
+    secrets = list(secrets)
+    secrets[chance.randrange(len(secrets))] = chance.choice(KINDS + ("zoster",))
+    if chance.random() < 0.4:
+        secrets.append(chance.choice(KINDS))
+    elif chance.random() < 0.3 and len(secrets) > 1:
+        secrets.pop()
+    return levels, groups[:at] + ((key, tuple(sorted(secrets))),) + groups[at + 1:]
+
+
+def chances(many, most):
+    """Rolls of one to so many persons, each with some releases that may or may not fit together."""
+    chance = random.Random(many)
+    for _ in range(many):
+        ladders = tuple(chance.choice((AGES, PLACES, PLAIN, SHORT)) for _ in range(chance.randint(1, 3)))
+        persons = tuple(
+            ("p" + letter, tuple(chance.choice(VALUES[ladder]) for ladder in ladders))
+            for letter in "abcdefgh"[:chance.randint(1, most)]
+        )
+        roll = (ladders, persons, KINDS[:chance.randint(1, 3)])
+        table = table_of(roll, [chance.choice(roll[2]) for _ in persons])
+        releases = []
+        for _ in range(chance.randint(0, 4)):
+            levels = tuple(chance.randrange(levels_of(ladder)) for ladder in ladders)
+            release = release_of(table, levels, (chance.randint(1, 2), chance.randint(1, 2), 9))
+            releases.append(spoiled(release, chance) if chance.random() < 0.15 else release)
+        yield roll, releases

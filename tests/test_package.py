@@ -36,9 +36,22 @@ INTERFACE = {
         "loss_paper": ["table", "rule", "costs", "out"],
         "paper_holds": ["table", "rule", "costs", "told", "paper", "out"],
     },
+    "releases": {"release_of": ["table", "levels", "rule"], "is_release": ["ladders", "thing"]},
+    "worlds": {
+        "is_roll": ["thing"], "fits": ["roll", "world", "releases"], "may_have": ["roll", "releases"],
+    },
+    "trees": {
+        "world_or_tree": ["roll", "releases", "person", "secret"],
+        "tree_holds": ["roll", "releases", "person", "secret", "tree"],
+    },
+    "desk": {"Desk": ["table", "names", "kinds", "rule"]},
+}
+METHODS = {
+    "ask": ["levels"], "given": [], "may_know": [], "asked": [], "refused": [], "is_asking": [],
+    "open_now": [], "roll": [],
 }
 # Those behind a star, by name alone, with what they are where they are left out.
-BEHIND_A_STAR = {"out": 50}
+BEHIND_A_STAR = {("losses", "out"): 50, ("desk", "rule"): (2, 2, 0)}
 
 # L8, less what only __main__.py or a later need of the program may use.
 BUILTINS = """len range enumerate zip min max sum abs sorted reversed int str bool list tuple dict set
@@ -63,10 +76,24 @@ class Interface(unittest.TestCase):
                     continue
                 thing = getattr(importlib.import_module("mistgrid." + file), name)
                 for part in inspect.signature(thing).parameters.values():
-                    starred = part.name in BEHIND_A_STAR
+                    starred = (file, part.name) in BEHIND_A_STAR
                     self.assertEqual(part.kind is part.KEYWORD_ONLY, starred, (name, part))
                     self.assertEqual(part.kind is part.POSITIONAL_OR_KEYWORD, not starred, (name, part))
-                    self.assertEqual(part.default, BEHIND_A_STAR.get(part.name, part.empty), name)
+                    self.assertEqual(part.default, BEHIND_A_STAR.get((file, part.name), part.empty), name)
+
+    def test_the_methods_of_the_desk_are_its_own(self):
+        desk = importlib.import_module("mistgrid.desk").Desk
+        for name, arguments in METHODS.items():
+            self.assertIn(name, vars(desk))
+            parts = list(inspect.signature(vars(desk)[name]).parameters.values())
+            self.assertEqual([part.name for part in parts[1:]], arguments)
+            for part in parts:
+                self.assertIs(part.kind, part.POSITIONAL_OR_KEYWORD)
+                self.assertIs(part.default, part.empty)
+
+    def test_plain_values(self):
+        self.assertEqual(importlib.import_module("mistgrid.losses").OUT, 50)
+        self.assertEqual(importlib.import_module("mistgrid.desk").RULE, (2, 2, 0))
 
 
 class Readme(unittest.TestCase):
